@@ -1,0 +1,1 @@
+"""Networks of rule tables: where packets end."""
