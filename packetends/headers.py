@@ -6,12 +6,26 @@ A set of headers is a list that holds True or False for each header in order.
 """
 
 
+def is_pattern(pattern, size):
+    """Whether the two numbers are a pattern of headers that are below size."""
+    # The second number needs no range of its own: below 0 or with a bit too high it would have bits not told.
+    return 0 <= pattern[0] < size and (pattern[0] & pattern[1]) == pattern[1]
+
+
 def matches(header, pattern):
     return (header & pattern[0]) == pattern[1]
 
 
 def rewritten(header, rewrite):
     return header - (header & rewrite[0]) + rewrite[1]
+
+
+def set_of(headers, size):
+    """The set of these headers, of all that are below size."""
+    members = [False for header in range(size)]
+    for header in headers:
+        members[header] = True
+    return members
 
 
 def one_form(members):

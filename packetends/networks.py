@@ -1,26 +1,27 @@
-"""The calls, and what they answer."""
+"""The calls: how they are handed in, when they are refused, and their answers in order."""
 
-from packetends.headers import set_numbers
+from packetends.headers import is_pattern
+from packetends.questions import answer_to
 from packetends.reading import NotANetwork
 from packetends.reading import read_network
 from packetends.ways import AT_EXIT
 from packetends.ways import ROUND
-from packetends.ways import first_settled
-from packetends.ways import way_of
 
 NET = 0
 USED = 13
-SHOWN_PACKETS = 60
+MOST_LISTED = 5
 
 NOT_TOLD = -1
 NO_SWITCH = -2
 NO_HEADER = -3
 NO_EXIT = -4
+NO_PATTERN = -5
 NO_KIND = -6
+NO_LINK = -7
 NO_NETWORK = -8
+NO_RULE = -9
 
-# What each call is handed in whole numbers, in order. The calls from 8 on are
-# here too, since they must be read to be refused while there is no network.
+# What each call is handed in whole numbers, in order.
 HANDED = (
     (),
     (),
@@ -57,28 +58,44 @@ def call_at(calls, place):
     return (call, numbers, calls[row_start:row_end], row_end)
 
 
-def refusal_of(network, word, numbers):
-    """The refusal of what is handed over for one word, 0 if it is not refused."""
-    if word == "switch" and not network.has_switch(numbers[0]):
+def refusal_of(network, word, numbers, place):
+    """The refusal of what is handed over at the place for one word, 0 if it is not refused."""
+    number = numbers[place]
+    if word == "switch" and not network.has_switch(number):
         return NO_SWITCH
-    if word == "header" and not network.has_header(numbers[0]):
+    if word == "header" and not network.has_header(number):
         return NO_HEADER
-    if word == "exit" and not network.has_exit(numbers[0], numbers[1]):
+    if word == "exit" and not network.has_exit(number, numbers[place + 1]):
         return NO_EXIT
-    if word == "kind" and not (AT_EXIT <= numbers[0] <= ROUND):
+    if word == "pattern" and not is_pattern((number, numbers[place + 1]), network.size):
+        return NO_PATTERN
+    if word == "kind" and not (AT_EXIT <= number <= ROUND):
         return NO_KIND
+    if word == "link" and not network.has_link(number):
+        return NO_LINK
+    # A rule is one of the switch that is handed over just before it.
+    if word == "rule" and not network.has_rule(numbers[place - 1], number):
+        return NO_RULE
     return 0
 
 
-def first_refusal(network, words, numbers):
-    start = 0
+def refusal_of_row(network, switches):
+    if len(switches) > MOST_LISTED:
+        return NO_SWITCH
+    for switch in switches:
+        if not network.has_switch(switch):
+            return NO_SWITCH
+    return 0
+
+
+def first_refusal(network, words, numbers, row):
+    place = 0
     for word in words:
-        after = start + numbers_for(word)
-        refusal = refusal_of(network, word, numbers[start:after])
+        refusal = refusal_of(network, word, numbers, place)
         if refusal != 0:
             return refusal
-        start = after
-    return 0
+        place += numbers_for(word)
+    return refusal_of_row(network, row)
 
 
 def network_told(numbers):
@@ -96,85 +113,14 @@ def answer_net(network):
     return [len(network.tables), network.width, len(at_exits)]
 
 
-def answer_told(network, numbers):
-    return [len(network.numbers)] + network.numbers
-
-
-def answer_way(network, numbers):
-    packet = (numbers[0], numbers[1])
-    packets = way_of(network.onward, packet)
-    answer = list(network.ends[packet])
-    answer.append(len(packets))
-    for passed in packets[:SHOWN_PACKETS]:
-        answer.extend(passed)
-    return answer
-
-
-def without_header(end):
-    # Only an exit's end has a fourth number, and that is its header.
-    return end[:3]
-
-
-def answer_ends(network, numbers):
-    counts = {}
-    for end in network.ends_from(numbers[0]):
-        told = without_header(end)
-        counts[told] = counts.get(told, 0) + 1
-    answer = [len(counts)]
-    # The numbers of the kinds, and those behind them, rise in the order asked for.
-    for told in sorted(counts):
-        answer.extend(told)
-        answer.append(counts[told])
-    return answer
-
-
-def answer_toexit(network, numbers):
-    wanted = (AT_EXIT, numbers[1], numbers[2])
-    return set_numbers([without_header(end) == wanted for end in network.ends_from(numbers[0])])
-
-
-def answer_tokind(network, numbers):
-    return set_numbers([end[0] == numbers[1] for end in network.ends_from(numbers[0])])
-
-
-def answer_passing(network, numbers):
-    there = {}
-    for header in range(network.size):
-        there[(numbers[1], header)] = True
-    passes = first_settled(network.onward, there, False)
-    return set_numbers([passes[(numbers[0], header)] for header in range(network.size)])
-
-
-def answer_outat(network, numbers):
-    wanted = (AT_EXIT, numbers[1], numbers[2])
-    members = [False for header in range(network.size)]
-    for end in network.ends_from(numbers[0]):
-        if without_header(end) == wanted:
-            members[end[3]] = True
-    return set_numbers(members)
-
-
-ANSWERS = {
-    1: answer_told,
-    2: answer_way,
-    3: answer_ends,
-    4: answer_toexit,
-    5: answer_tokind,
-    6: answer_passing,
-    7: answer_outat,
-}
-
-
-def answer_call(network, call, numbers):
+def answer_call(network, call, numbers, row):
     """What a call other than net answers."""
     if network is None:
         return [NO_NETWORK]
-    if call not in ANSWERS:
-        raise NotImplementedError(f"call {call} is not built yet")
-    refusal = first_refusal(network, HANDED[call], numbers)
+    refusal = first_refusal(network, HANDED[call], numbers, row)
     if refusal != 0:
         return [refusal]
-    return ANSWERS[call](network, numbers)
+    return answer_to(network, call, numbers + row)
 
 
 def answers(calls):
@@ -191,7 +137,7 @@ def answers(calls):
             if told is not None:
                 network = told
         else:
-            answer = answer_call(network, found[0], found[1])
+            answer = answer_call(network, found[0], found[1], found[2])
         given.append(len(answer))
         given.extend(answer)
     return given

@@ -1,5 +1,6 @@
 """Networks as they are told by numbers."""
 
+from packetends.headers import is_pattern
 from packetends.ways import Network
 from packetends.ways import PORTS
 from packetends.ways import Rule
@@ -24,24 +25,29 @@ class Numbers:
     def at_end(self):
         return self.place == len(self.numbers)
 
-    def take(self, least, most):
-        """The number that comes, which has to be one from least to most."""
+    def take_any(self):
+        """The number that comes."""
         if self.at_end():
             raise NotANetwork("the list is too short")
         number = self.numbers[self.place]
+        self.place += 1
+        return number
+
+    def take(self, least, most):
+        """The number that comes, which has to be one from least to most."""
+        number = self.take_any()
         if number < least or number > most:
             raise NotANetwork("a number is out of its range")
-        self.place += 1
         return number
 
 
 def read_pattern(source, size):
     """A pattern, or a rewrite, which is told likewise."""
-    told = source.take(0, size - 1)
-    bits = source.take(0, size - 1)
-    if (bits & told) != bits:
-        raise NotANetwork("a bit is 1 that is not told")
-    return (told, bits)
+    told = source.take_any()
+    pattern = (told, source.take_any())
+    if not is_pattern(pattern, size):
+        raise NotANetwork("two numbers are no pattern")
+    return pattern
 
 
 def read_rule(source, size):

@@ -39,6 +39,34 @@ def outat(switch, exitswitch, port):
     return [7, switch, exitswitch, port]
 
 
+def arriving(switch, pattern, other):
+    return [8, switch] + list(pattern) + [other]
+
+
+def leading(switch, other, pattern):
+    return [9, switch, other] + list(pattern)
+
+
+def least(kind):
+    return [10, kind]
+
+
+def longest(switch):
+    return [11, switch]
+
+
+def overlink(switch, link):
+    return [12, switch, link]
+
+
+def used(switch, rule, switches):
+    return [13, switch, rule, len(switches)] + list(switches)
+
+
+def loop(switch, header):
+    return [14, switch, header]
+
+
 def drop(pattern):
     return list(pattern) + [0]
 

@@ -3,22 +3,34 @@
 import random
 import unittest
 
-from tests.helper import ends, line, net, network, outat, passing, toexit, tokind, told, way
+from tests.helper import (arriving, counter, ends, leading, least, line, longest, loop, net, network, outat, overlink,
+                          passing, send, toexit, tokind, told, used, way)
 
 
 def bit_text(header, width):
     return bin(header)[2:].zfill(width)
 
 
+def model_matches(header, pattern, width):
+    texts = [bit_text(number, width) for number in (header, pattern[0], pattern[1])]
+    return all(t == "0" or h == b for h, t, b in zip(*texts))
+
+
+def model_rule(made, switch, header):
+    width, tables, links = made
+    for number, rule in enumerate(tables[switch]):
+        if model_matches(header, rule[:2], width):
+            return number
+    return None
+
+
 def model_step(made, switch, header):
     width, tables, links = made
     text = bit_text(header, width)
-    for number, rule in enumerate(tables[switch]):
-        told_text, bits_text = bit_text(rule[0], width), bit_text(rule[1], width)
-        if all(t == "0" or h == b for h, t, b in zip(text, told_text, bits_text)):
-            break
-    else:
+    number = model_rule(made, switch, header)
+    if number is None:
         return "end", (2, switch)
+    rule = tables[switch][number]
     if rule[2] == 0:
         return "end", (1, switch, number)
     told_text, bits_text = bit_text(rule[3], width), bit_text(rule[4], width)
@@ -40,6 +52,18 @@ def model_way(made, switch, header):
         if what in packets:
             return (3,), packets
         packets.append(what)
+
+
+def model_port(made, packet):
+    """The port by which the packet is sent, be it an exit or not; None if it is not sent."""
+    number = model_rule(made, *packet)
+    rule = [0, 0, 0] if number is None else made[1][packet[0]][number]
+    return None if rule[2] == 0 else [packet[0], rule[5]]
+
+
+def model_loop(made, packets):
+    word, what = model_step(made, *packets[-1])
+    return packets[packets.index(what):] if word == "on" else []
 
 
 def model_form(texts, width):
@@ -88,6 +112,23 @@ def made_up(source):
     return width, tables, links
 
 
+def winding(source):
+    """A network with long ways and long rounds: each switch sends each header on as the next one."""
+    width, switches = source.randint(3, 7), source.randint(1, 3)
+    ports = [(switch, port) for switch in range(switches) for port in range(6)]
+    source.shuffle(ports)
+    links = [list(ports[place] + ports[place + 1]) for place in range(0, len(ports), 2)]
+    tables = []
+    for switch in range(switches):
+        highest = 2 ** width - 1
+        table = counter(width, send((0, 0), 0, (highest, source.randrange(highest + 1))))
+        for rule in table:
+            rule[5] = source.randrange(6)
+        tables.append(table)
+    # A link less leaves two exits; without one all ways go round.
+    return width, tables, links[source.randrange(2):]
+
+
 class ModelTest(unittest.TestCase):
     def check(self, made, source):
         width, tables, links = made
@@ -131,11 +172,70 @@ class ModelTest(unittest.TestCase):
             expect(outat(switch, *place), [-4] if place in linked else model_set(outs, width))
         self.assertEqual(line(*calls), expected)
 
-    def test_made_up_networks(self):
-        for seed in range(250):
+    def check_from_arriving_on(self, made, source):
+        width, tables, links = made
+        size, switches = 2 ** width, range(len(tables))
+        ways = {(switch, header): model_way(made, switch, header) for switch in switches for header in range(size)}
+        calls, expected = [net(network(width, tables, links))], []
+
+        def expect(call, answer):
+            calls.append(call)
+            expected.append(answer)
+
+        def expect_set(call, headers):
+            expect(call, model_set(sorted(set(headers)), width))
+
+        def headers_where(switch, holds):
+            return [header for header in range(size) if any(holds(packet) for packet in ways[(switch, header)][1])]
+
+        for kind in range(4):
+            of_kind = [packet for packet in sorted(ways) if ways[packet][0][0] == kind]
+            expect(least(kind), [1] + list(of_kind[0]) if of_kind else [0])
+        for switch in switches:
+            mask = source.randrange(size) & source.randrange(size)
+            pattern = (mask, mask & source.randrange(size))
+            other = source.randrange(len(tables))
+            expect_set(arriving(switch, pattern, other), [
+                packet[1] for header in range(size) if model_matches(header, pattern, width)
+                for packet in ways[(switch, header)][1] if packet[0] == other])
+            expect_set(leading(switch, other, pattern), headers_where(
+                switch, lambda packet: packet[0] == other and model_matches(packet[1], pattern, width)))
+            lengths = [(-len(ways[(switch, header)][1]), header) for header in range(size)
+                       if ways[(switch, header)][0] != (3,)]
+            expect(longest(switch), [1, -min(lengths)[0], min(lengths)[1]] if lengths else [0])
+            link = source.randrange(len(links) + 1)
+            if link == len(links):
+                expect(overlink(switch, link), [-7])
+            else:
+                two = [links[link][:2], links[link][2:]]
+                expect_set(overlink(switch, link), headers_where(switch, lambda packet: model_port(made, packet) in two))
+            rule = source.randrange(len(tables[switch]) + 1)
+            listed = [source.randrange(len(tables)) for place in range(source.randint(0, 5))]
+            if rule == len(tables[switch]):
+                expect(used(switch, rule, listed), [-9])
+            else:
+                expect_set(used(switch, rule, listed), [
+                    packet[1] for start in ways if start[0] in listed for packet in ways[start][1]
+                    if packet[0] == switch and model_rule(made, *packet) == rule])
+            for ask in range(3):
+                start = (switch, source.randrange(size))
+                packets = model_loop(made, ways[start][1])
+                expect(loop(*start), [len(packets)] + [n for packet in packets[:60] for n in packet])
+        self.assertEqual(line(*calls)[1:], expected)
+
+    def check_many(self, make, count):
+        for seed in range(count):
             with self.subTest(seed=seed):
                 source = random.Random(seed)
-                self.check(made_up(source), source)
+                made = make(source)
+                self.check(made, source)
+                self.check_from_arriving_on(made, source)
+
+    def test_made_up_networks(self):
+        self.check_many(made_up, 250)
+
+    def test_winding_networks(self):
+        self.check_many(winding, 60)
 
 
 if __name__ == "__main__":
